@@ -1,0 +1,1 @@
+"""Lorries round bends: loads, the roads they may go, and the quickest ways."""

@@ -1,0 +1,9 @@
+"""The greatest numbers that are as told."""
+
+MOST_PLACES = 8
+MOST_ROADS = 14
+MOST_MINUTES = 200
+MOST_HIGH = 100
+MOST_HEAVY = 1000
+MOST_LONG = 300
+MOST_WIDE = 200
