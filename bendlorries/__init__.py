@@ -1,1 +1,1 @@
-"""Lorries round bends: loads, the roads they may go, and the quickest ways."""
+"""Lorries round bends: loads, the roads they may go, the quickest ways, and convoys on them."""

@@ -52,14 +52,18 @@ class Road:
 
 
 class Network:
-    """How many places there are, and the roads in the order of their numbers."""
+    """How many places there are, the roads in the order of their numbers, and the convoys by theirs."""
 
     def __init__(self):
         self.places = 0
         self.roads = []
+        self.convoys = {}
 
     def has_places(self, p, q):
         return p < self.places and q < self.places
 
     def has_road(self, r):
         return r < len(self.roads)
+
+    def has_convoy(self, k):
+        return k in self.convoys

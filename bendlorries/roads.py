@@ -2,19 +2,20 @@
 
 from bendlorries.corner import goes_round, longest_rod, narrowest_width
 from bendlorries.layout import Load, Network, Road
-from bendlorries.limits import MOST_HEAVY, MOST_HIGH, MOST_LONG, MOST_MINUTES, MOST_PLACES, MOST_ROADS, MOST_WIDE
-from bendlorries.refusals import FULL, NO_SUCH, NONE_FOUND, NOT_AS_TOLD, NOT_STARTED
-from bendlorries.ways import greatest_length, quickest
+from bendlorries.limits import LATEST_START, MOST_CONVOYS, MOST_MINUTES, MOST_PLACES, MOST_ROADS
+from bendlorries.limits import MOST_HEAVY, MOST_HIGH, MOST_LONG, MOST_WIDE
+from bendlorries.refusals import FULL, NO_SUCH, NONE_FOUND, NOT_AS_TOLD, NOT_STARTED, WOULD_MEET
+from bendlorries.traffic import convoy_by, convoy_on, first_clear_minute, least_free_number, longest_wait
+from bendlorries.ways import greatest_height, greatest_length, greatest_weight, needed_roads, quickest
 
 START = 0
 
-# For each call by its number, how many numbers stand behind it. The calls that are not built
-# are listed too: ahead of a start they must be read over and refused.
+# For each call by its number, how many numbers stand behind it.
 HOW_MANY_NUMBERS = (0, 0, 7, 2, 3, 3, 2, 2, 4, 5, 4, 4, 4, 5, 6, 6, 1, 2, 2, 1, 1, 0)
 
 
-class CallNotBuilt(Exception):
-    """A call that the document tells of and that isn't built yet."""
+def number_or_none_found(number):
+    return [NONE_FOUND] if number is None else [number]
 
 
 # The network is new already: a start alone makes one.
@@ -84,8 +85,7 @@ def answer_longest(network, a, b):
 def answer_narrowest(network, length, a):
     if length > MOST_LONG or a > MOST_WIDE:
         return [NOT_AS_TOLD]
-    b = narrowest_width(length, a)
-    return [NONE_FOUND] if b is None else [b]
+    return number_or_none_found(narrowest_width(length, a))
 
 
 def answer_may(network, r, length, height, weight):
@@ -97,23 +97,138 @@ def answer_may(network, r, length, height, weight):
     return [network.roads[r].why_not(load)]
 
 
+def refusal_of_load(network, p, q, load):
+    """Give what refuses any question of the load's ways from p to q, or None."""
+    if not network.has_places(p, q):
+        return NO_SUCH
+    if not load.is_as_told():
+        return NOT_AS_TOLD
+    return None
+
+
 def answer_way(network, p, q, length, height, weight):
     load = Load(length, height, weight)
-    if not network.has_places(p, q):
-        return [NO_SUCH]
-    if not load.is_as_told():
-        return [NOT_AS_TOLD]
+    refusal = refusal_of_load(network, p, q, load)
+    if refusal is not None:
+        return [refusal]
     way = quickest(network, p, q, load)
     return [NONE_FOUND] if way is None else [way[0]] + way[2]
 
 
+def refusal_of_greatest(network, p, q, load):
+    """Give what refuses the question of a greatest measure, for which the load has 0, or None."""
+    refusal = refusal_of_load(network, p, q, load)
+    if refusal is None and p == q:
+        return NOT_AS_TOLD
+    return refusal
+
+
 def answer_most(network, p, q, height, weight):
-    if not network.has_places(p, q):
+    refusal = refusal_of_greatest(network, p, q, Load(0, height, weight))
+    if refusal is not None:
+        return [refusal]
+    return number_or_none_found(greatest_length(network, p, q, height, weight))
+
+
+def answer_heaviest(network, p, q, length, height):
+    refusal = refusal_of_greatest(network, p, q, Load(length, height, 0))
+    if refusal is not None:
+        return [refusal]
+    return number_or_none_found(greatest_weight(network, p, q, length, height))
+
+
+def answer_highest(network, p, q, length, weight):
+    refusal = refusal_of_greatest(network, p, q, Load(length, 0, weight))
+    if refusal is not None:
+        return [refusal]
+    return number_or_none_found(greatest_height(network, p, q, length, weight))
+
+
+def answer_needs(network, p, q, length, height, weight):
+    load = Load(length, height, weight)
+    refusal = refusal_of_load(network, p, q, load)
+    if refusal is not None:
+        return [refusal]
+    if quickest(network, p, q, load) is None:
+        return [NONE_FOUND]
+    needed = needed_roads(network, p, q, load)
+    return [len(needed)] + needed
+
+
+def refusal_of_start(network, p, q, load, t):
+    """Give what refuses any question of the load's setting out at t, or None."""
+    refusal = refusal_of_load(network, p, q, load)
+    if refusal is None and t > LATEST_START:
+        return NOT_AS_TOLD
+    return refusal
+
+
+def answer_soonest(network, p, q, length, height, weight, t):
+    load = Load(length, height, weight)
+    refusal = refusal_of_start(network, p, q, load, t)
+    if refusal is not None:
+        return [refusal]
+    way = quickest(network, p, q, load)
+    if way is None:
+        return [NONE_FOUND]
+    sets_out = first_clear_minute(network, way[2], t)
+    return [sets_out, sets_out + way[0]]
+
+
+def answer_send(network, p, q, length, height, weight, t):
+    load = Load(length, height, weight)
+    refusal = refusal_of_start(network, p, q, load, t)
+    if refusal is not None:
+        return [refusal]
+    way = quickest(network, p, q, load)
+    if way is None:
+        return [NONE_FOUND]
+    convoy = convoy_by(network, way[2], t)
+    if longest_wait(network, convoy) > 0:
+        return [WOULD_MEET]
+    if len(network.convoys) == MOST_CONVOYS:
+        return [FULL]
+    number = least_free_number(network)
+    network.convoys[number] = convoy
+    return [number, t + way[0]]
+
+
+def answer_drop(network, k):
+    if not network.has_convoy(k):
         return [NO_SUCH]
-    if p == q or not Load(0, height, weight).is_as_told():
-        return [NOT_AS_TOLD]
-    length = greatest_length(network, p, q, height, weight)
-    return [NONE_FOUND] if length is None else [length]
+    convoy = network.convoys.pop(k)
+    return [convoy.sets_out]
+
+
+def answer_where(network, k, t):
+    if not network.has_convoy(k):
+        return [NO_SUCH]
+    stretch = network.convoys[k].stretch_in(t)
+    return [NONE_FOUND] if stretch is None else [stretch.road_number, stretch.leaves - t]
+
+
+def answer_busy(network, r, t):
+    if not network.has_road(r):
+        return [NO_SUCH]
+    return number_or_none_found(convoy_on(network, r, t))
+
+
+def answer_convoy(network, k):
+    if not network.has_convoy(k):
+        return [NO_SUCH]
+    convoy = network.convoys[k]
+    return [convoy.sets_out] + [stretch.road_number for stretch in convoy.stretches]
+
+
+def answer_look(network, r):
+    if not network.has_road(r):
+        return [NO_SUCH]
+    road = network.roads[r]
+    return [road.minutes, road.p, road.q, road.high, road.heavy, road.a, road.b, 1 if road.closed else 0]
+
+
+def answer_state(network):
+    return [network.places, len(network.roads), len(network.convoys)]
 
 
 # In the order of the calls' numbers.
@@ -129,6 +244,17 @@ HANDLERS = (
     answer_may,
     answer_way,
     answer_most,
+    answer_heaviest,
+    answer_highest,
+    answer_needs,
+    answer_soonest,
+    answer_send,
+    answer_drop,
+    answer_where,
+    answer_busy,
+    answer_convoy,
+    answer_look,
+    answer_state,
 )
 
 
@@ -136,6 +262,8 @@ def hand_over(handler, network, n):
     """Call the handler with the numbers n, each by itself."""
     if len(n) == 0:
         return handler(network)
+    if len(n) == 1:
+        return handler(network, n[0])
     if len(n) == 2:
         return handler(network, n[0], n[1])
     if len(n) == 3:
@@ -144,14 +272,14 @@ def hand_over(handler, network, n):
         return handler(network, n[0], n[1], n[2], n[3])
     if len(n) == 5:
         return handler(network, n[0], n[1], n[2], n[3], n[4])
+    if len(n) == 6:
+        return handler(network, n[0], n[1], n[2], n[3], n[4], n[5])
     return handler(network, n[0], n[1], n[2], n[3], n[4], n[5], n[6])
 
 
 def answer_call(network, call, numbers):
     if network is None:
         return [NOT_STARTED]
-    if call >= len(HANDLERS):
-        raise CallNotBuilt(f"call {call} is not built yet")
     return hand_over(HANDLERS[call], network, numbers)
 
 

@@ -6,6 +6,7 @@ HUGE = 4294967295
 
 START = [0]
 PLACE = [1]
+STATE = [21]
 
 HOW_MANY_NUMBERS = {
     "start": 0, "place": 0, "road": 7, "close": 2, "widen": 3, "round": 3, "longest": 2, "narrowest": 2,
@@ -39,6 +40,46 @@ def most(p, q, height=0, weight=0):
 
 def may(r, length=0, height=0, weight=0):
     return call("may", r, length, height, weight)
+
+
+def heaviest(p, q, length=0, height=0):
+    return call("heaviest", p, q, length, height)
+
+
+def highest(p, q, length=0, weight=0):
+    return call("highest", p, q, length, weight)
+
+
+def needs(p, q, length=0, height=0, weight=0):
+    return call("needs", p, q, length, height, weight)
+
+
+def soonest(p, q, t, length=0, height=0, weight=0):
+    return call("soonest", p, q, length, height, weight, t)
+
+
+def send(p, q, t, length=0, height=0, weight=0):
+    return call("send", p, q, length, height, weight, t)
+
+
+def drop(k):
+    return call("drop", k)
+
+
+def where(k, t):
+    return call("where", k, t)
+
+
+def busy(r, t):
+    return call("busy", r, t)
+
+
+def convoy(k):
+    return call("convoy", k)
+
+
+def look(r):
+    return call("look", r)
 
 
 def country(places, *roads):
@@ -87,3 +128,33 @@ class Numbers:
     def below(self, limit):
         self.seed = (self.seed * 6364136223846793005 + 1442695040888963407) % 2 ** 64
         return (self.seed >> 33) % limit
+
+
+def thrown_country(thrown):
+    """How many places, and roads as tuples, of few measures so that many ways are as quick."""
+    places = 2 + thrown.below(7)
+    roads = []
+    for k in range(thrown.below(15)):
+        p = thrown.below(places)
+        q = (p + 1 + thrown.below(places - 1)) % places
+        a = thrown.below(3) * thrown.below(100)
+        b = thrown.below(3) * thrown.below(100)
+        roads.append((p, q, 1 + thrown.below(4), 40 + 30 * thrown.below(3), 400 + 300 * thrown.below(3), a, b))
+    return places, roads
+
+
+def all_ways(roads, p, q, allowed):
+    """Every way from p to q that comes to no place twice, as (minutes, how many roads, the roads)."""
+    found = []
+    waiting = [(p, {p}, 0, [])]
+    while waiting:
+        here, seen, minutes, gone = waiting.pop()
+        if here == q:
+            found.append((minutes, len(gone), gone))
+            continue
+        for r in allowed:
+            if here in roads[r][:2]:
+                there = sum(roads[r][:2]) - here
+                if there not in seen:
+                    waiting.append((there, seen | {there}, minutes + roads[r][2], gone + [r]))
+    return found

@@ -15,7 +15,7 @@ NODES = (
     ast.AugAssign, ast.If, ast.While, ast.For, ast.Return, ast.Break, ast.Continue, ast.Pass, ast.Raise, ast.Constant,
     ast.Name, ast.List, ast.Tuple, ast.Dict, ast.BinOp, ast.UnaryOp, ast.BoolOp, ast.Compare, ast.IfExp, ast.Call,
     ast.Attribute, ast.Subscript, ast.Slice, ast.ListComp, ast.comprehension, ast.JoinedStr, ast.FormattedValue,
-    ast.Lambda, ast.expr_context, ast.operator, ast.unaryop, ast.boolop, ast.cmpop,
+    ast.Lambda, ast.keyword, ast.expr_context, ast.operator, ast.unaryop, ast.boolop, ast.cmpop,
 )
 OWN_NAMES = set(
     "len range enumerate zip min max sum abs sorted reversed int str bool list tuple dict isinstance ord repr any all "
@@ -26,6 +26,8 @@ METHODS = set(
     "setdefault split splitlines startswith strip update upper values zfill bit_length".split())
 WORDS = ("type typing typing_extensions enum Enum IntEnum StrEnum Flag IntFlag Generic Protocol ABC ABCMeta "
          "namedtuple NamedTuple TypedDict TYPE_CHECKING abstractmethod").split()
+KEYWORDS = {"sorted": ("key", "reverse"), "min": ("key", "default"), "max": ("key", "default"), "sum": ("start",),
+            "enumerate": ("start",), "zip": ("strict",)}
 NEVER = ("register mro elements open input version_info with_traceback add_note").split()
 
 
@@ -103,12 +105,35 @@ class Code(unittest.TestCase):
             if node.id in dir(builtins):
                 self.assertIn(node.id, OWN_NAMES, name)
 
+    def test_no_local_is_called_like_an_import_or_a_class_of_its_file(self):
+        for name, tree in TREES.items():
+            above = {one.name for node in tree.body if isinstance(node, ast.ImportFrom) for one in node.names}
+            above |= {node.module.split(".")[-1] for node in tree.body if isinstance(node, ast.ImportFrom)}
+            above |= {node.name for node in tree.body if isinstance(node, (ast.FunctionDef, ast.ClassDef))}
+            for node in ast.walk(tree):
+                if isinstance(node, ast.arg):
+                    self.assertNotIn(node.arg, above, name)
+                if isinstance(node, ast.Name) and isinstance(node.ctx, ast.Store):
+                    self.assertNotIn(node.id, above, name)
+
+    def test_own_methods_and_values_are_called_like_none_of_pythons_own(self):
+        taken = {one for kind in (str, int, list, tuple, dict, set, frozenset, bytes) for one in dir(kind)}
+        own = {node.name for name, one in nodes(ast.ClassDef) for node in one.body if isinstance(node, ast.FunctionDef)}
+        own |= {node.attr for name, node in nodes(ast.Attribute) if isinstance(node.ctx, ast.Store)}
+        self.assertEqual((own - {"__init__"}) & taken, set())
+
     def test_methods_are_own_or_listed(self):
         own = {node.name for name, node in nodes(ast.FunctionDef)}
         values = {node.attr for name, node in nodes(ast.Attribute) if isinstance(node.ctx, ast.Store)}
         self.assertEqual(own & values, set())
         for name, node in nodes(ast.Attribute):
             self.assertIn(node.attr, METHODS | own | values, name)
+
+    def test_keywords_stand_at_these_names_alone(self):
+        for name, node in nodes(ast.Call):
+            for one in node.keywords:
+                self.assertIsInstance(node.func, ast.Name, name)
+                self.assertIn(one.arg, KEYWORDS.get(node.func.id, ()), name)
 
     def test_is_stands_beside_none_alone(self):
         for name, node in nodes(ast.Compare):

@@ -2,7 +2,9 @@
 
 import unittest
 
-from tests.asking import START, Numbers, ask, ask_in, call, close, country, may, most, road, way
+from tests.asking import (
+    START, Numbers, all_ways, ask, ask_in, call, close, country, may, most, road, thrown_country, way,
+)
 
 
 class WayCall(unittest.TestCase):
@@ -122,36 +124,6 @@ class MostCall(unittest.TestCase):
 
     def test_not_as_told_comes_before_none(self):
         self.assertEqual(ask_in(country(2), most(0, 0), most(0, 1, 101), most(0, 1)), [[-22], [-22], [-33]])
-
-
-def thrown_country(thrown):
-    """How many places, and roads as tuples, of few measures so that many ways are as quick."""
-    places = 2 + thrown.below(7)
-    roads = []
-    for k in range(thrown.below(15)):
-        p = thrown.below(places)
-        q = (p + 1 + thrown.below(places - 1)) % places
-        a = thrown.below(3) * thrown.below(100)
-        b = thrown.below(3) * thrown.below(100)
-        roads.append((p, q, 1 + thrown.below(4), 40 + 30 * thrown.below(3), 400 + 300 * thrown.below(3), a, b))
-    return places, roads
-
-
-def all_ways(roads, p, q, allowed):
-    """Every way from p to q that comes to no place twice, as (minutes, how many roads, the roads)."""
-    found = []
-    waiting = [(p, {p}, 0, [])]
-    while waiting:
-        here, seen, minutes, gone = waiting.pop()
-        if here == q:
-            found.append((minutes, len(gone), gone))
-            continue
-        for r in allowed:
-            if here in roads[r][:2]:
-                there = sum(roads[r][:2]) - here
-                if there not in seen:
-                    waiting.append((there, seen | {there}, minutes + roads[r][2], gone + [r]))
-    return found
 
 
 class WhatHolds(unittest.TestCase):
